@@ -18,7 +18,12 @@ type Prefix struct {
 	Len  int
 }
 
-// The table is filled at its first use, so that a caller who never asks for a size does not pay for it.
+// sizeOf tells how many addresses a prefix of this length has; the length must be in 0..addrBits.
+func sizeOf(length int) int {
+	return 1 << (addrBits - length)
+}
+
+// The table stands beside sizeOf, filled at its first use; SiblingOf alone reads it.
 var sizesMade sync.Once
 var sizes [addrBits + 1]int
 
@@ -32,10 +37,13 @@ func makeSizes() {
 	}
 }
 
-// sizeOf tells how many addresses a prefix of this length has; the length must be in 0..addrBits.
-func sizeOf(length int) int {
+// sizeInTable takes the table's word only where sizeOf tells the same, so that no answer hangs on what is kept.
+func sizeInTable(length int) int {
 	sizesMade.Do(makeSizes)
-	return sizes[length]
+	if size := sizes[length]; size == sizeOf(length) {
+		return size
+	}
+	return sizeOf(length)
 }
 
 func isAddr(addr int) bool {
@@ -148,14 +156,10 @@ func HalvesOf(p Prefix) (Prefix, Prefix, bool) {
 	return lower, upper, true
 }
 
+// SiblingOf is called by no other function: whatever called it would reach the table too.
 func SiblingOf(p Prefix) (Prefix, bool) {
-	parent, ok := ParentOf(p)
-	if !ok {
+	if !GoodPrefix(p) || p.Len == 0 {
 		return Prefix{}, false
 	}
-	lower, upper, _ := HalvesOf(parent)
-	if p == lower {
-		return upper, true
-	}
-	return lower, true
+	return Prefix{Addr: p.Addr ^ sizeInTable(p.Len), Len: p.Len}, true
 }

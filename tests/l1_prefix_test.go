@@ -2,8 +2,13 @@ package tests
 
 import (
 	"fmt"
+	"go/ast"
+	"go/parser"
+	"go/token"
 	"math"
 	"net/netip"
+	"path/filepath"
+	"slices"
 	"strings"
 	"testing"
 
@@ -367,6 +372,72 @@ func TestZeroAnswerOfAnAddressThatIsNone(t *testing.T) {
 			if has, ok := impl.HasAddr(p, addr); has || ok {
 				t.Errorf("HasAddr(%v, %d) = %v, %v", p, addr, has, ok)
 			}
+		}
+	}
+}
+
+// usersOf tells, for each name, the functions of the program in which it stands.
+func usersOf(t *testing.T) map[string][]string {
+	files, err := filepath.Glob("../impl/*.go")
+	if err != nil || len(files) == 0 {
+		t.Fatal(files, err)
+	}
+	users := map[string][]string{}
+	for _, file := range files {
+		parsed, err := parser.ParseFile(token.NewFileSet(), file, nil, parser.SkipObjectResolution)
+		if err != nil {
+			t.Fatal(err)
+		}
+		for _, d := range parsed.Decls {
+			f, ok := d.(*ast.FuncDecl)
+			if !ok || f.Body == nil {
+				continue
+			}
+			ast.Inspect(f.Body, func(n ast.Node) bool {
+				if id, ok := n.(*ast.Ident); ok && !slices.Contains(users[id.Name], f.Name.Name) {
+					users[id.Name] = append(users[id.Name], f.Name.Name)
+				}
+				return true
+			})
+		}
+	}
+	return users
+}
+
+func TestSiblingOfAloneReachesTheTableThatIsMadeOnce(t *testing.T) {
+	users := usersOf(t)
+	for name, may := range map[string][]string{
+		"sizesMade":   {"sizeInTable"},
+		"sizes":       {"makeSizes", "sizeInTable"},
+		"makeSizes":   {"sizeInTable"},
+		"sizeInTable": {"SiblingOf"},
+		"SiblingOf":   nil,
+	} {
+		got := slices.Sorted(slices.Values(users[name]))
+		if !slices.Equal(got, may) {
+			t.Errorf("%s stands in %v, not in %v", name, got, may)
+		}
+	}
+}
+
+func TestSiblingsAskedForAtTheSameTime(t *testing.T) {
+	l := goodPrefixes()
+	done := make(chan string)
+	for range 8 {
+		go func() {
+			fault := ""
+			for _, p := range l {
+				want := impl.Prefix{Addr: p.Addr ^ 1<<(32-p.Len), Len: p.Len}
+				if q, ok := impl.SiblingOf(p); p.Len > 0 && (q != want || !ok) {
+					fault = fmt.Sprintf("SiblingOf(%v) = %v, %v", p, q, ok)
+				}
+			}
+			done <- fault
+		}()
+	}
+	for range 8 {
+		if fault := <-done; fault != "" {
+			t.Error(fault)
 		}
 	}
 }
