@@ -217,31 +217,36 @@ func goodStoreByWords(s impl.Store) bool {
 	return s.Left >= 1 && s.Left <= mostTicks
 }
 
+// brief keeps configurations of all that there is room for out of what a fault tells.
+func brief(v any) string {
+	return fmt.Sprintf("%.1500s", fmt.Sprint(v))
+}
+
 func lookAtOp(t *testing.T, s impl.Store, o impl.Op, want impl.Store) {
 	t.Helper()
 	if got, ok := impl.StepStore(s, o); !sameStore(got, want) || !ok {
-		t.Errorf("StepStore(%v, %v) = %v, %v, not %v", s, o, got, ok, want)
+		t.Errorf("StepStore(%s, %s) = %s, %v, not %s", brief(s), brief(o), brief(got), ok, brief(want))
 	}
 }
 
 func refusesOp(t *testing.T, s impl.Store, o impl.Op) {
 	t.Helper()
 	if got, ok := impl.StepStore(s, o); !isZeroStore(got) || ok {
-		t.Errorf("StepStore(%.500s, %.200s) = %v, %v", fmt.Sprint(s), fmt.Sprint(o), got, ok)
+		t.Errorf("StepStore(%s, %s) = %s, %v", brief(s), brief(o), brief(got), ok)
 	}
 }
 
 func lookAtOps(t *testing.T, l []impl.Op, want impl.Store, wantDid ...bool) {
 	t.Helper()
 	if got, did, ok := impl.PlayOps(l); !sameStore(got, want) || !slices.Equal(did, wantDid) || !ok {
-		t.Errorf("PlayOps(%v) = %v, %v, %v, not %v, %v", l, got, did, ok, want, wantDid)
+		t.Errorf("PlayOps(%s) = %s, %v, %v, not %s, %v", brief(l), brief(got), did, ok, brief(want), wantDid)
 	}
 }
 
 func refusesOps(t *testing.T, l []impl.Op) {
 	t.Helper()
 	if got, did, ok := impl.PlayOps(l); !isZeroStore(got) || len(did) != 0 || ok {
-		t.Errorf("PlayOps of %d ops = %v, %v, %v", len(l), got, did, ok)
+		t.Errorf("PlayOps of %d ops = %s, %v, %v", len(l), brief(got), did, ok)
 	}
 }
 
@@ -249,16 +254,16 @@ func refusesOps(t *testing.T, l []impl.Op) {
 func lookAtStore(t *testing.T, s impl.Store) {
 	t.Helper()
 	if !impl.GoodStore(s) || !goodStoreByWords(s) {
-		t.Errorf("%v is not good", s)
+		t.Errorf("%s is not good", brief(s))
 	}
 	if got, ok := impl.ConfirmedOf(s); !sameConfig(got, s.History[0]) || !ok {
-		t.Errorf("ConfirmedOf(%v) = %v, %v", s, got, ok)
+		t.Errorf("ConfirmedOf(%s) = %s, %v", brief(s), brief(got), ok)
 	}
 	if got, ok := impl.TicksLeft(s); got != s.Left || !ok {
-		t.Errorf("TicksLeft(%v) = %v, %v", s, got, ok)
+		t.Errorf("TicksLeft(%s) = %v, %v", brief(s), got, ok)
 	}
 	if got, ok := impl.PendingOf(s); !sameCommands(got, diffByModel(s.Running, s.Candidate)) || !ok {
-		t.Errorf("PendingOf(%v) = %v, %v", s, got, ok)
+		t.Errorf("PendingOf(%s) = %s, %v", brief(s), brief(got), ok)
 	}
 }
 
@@ -268,13 +273,21 @@ func refusesStore(t *testing.T, name string, s impl.Store) {
 		t.Errorf("%s: is good", name)
 	}
 	if got, ok := impl.ConfirmedOf(s); len(got) != 0 || ok {
-		t.Errorf("%s: ConfirmedOf: %v, %v", name, got, ok)
+		t.Errorf("%s: ConfirmedOf: %s, %v", name, brief(got), ok)
 	}
 	if got, ok := impl.TicksLeft(s); got != 0 || ok {
 		t.Errorf("%s: TicksLeft: %v, %v", name, got, ok)
 	}
 	if got, ok := impl.PendingOf(s); len(got) != 0 || ok {
-		t.Errorf("%s: PendingOf: %v, %v", name, got, ok)
+		t.Errorf("%s: PendingOf: %s, %v", name, brief(got), ok)
+	}
+}
+
+// stopAtFault keeps rows by the thousand from telling one fault by the thousand.
+func stopAtFault(t *testing.T) {
+	t.Helper()
+	if t.Failed() {
+		t.FailNow()
 	}
 }
 
@@ -284,11 +297,13 @@ func lookAtStepped(t *testing.T, s impl.Store, o impl.Op) (impl.Store, bool) {
 	m := storeModelOf(s)
 	if !m.do(o) {
 		refusesOp(t, s, o)
+		stopAtFault(t)
 		return s, false
 	}
 	want := m.store()
 	lookAtOp(t, s, o, want)
 	lookAtStore(t, want)
+	stopAtFault(t)
 	return want, true
 }
 
@@ -297,7 +312,7 @@ func mustStep(t *testing.T, s impl.Store, o impl.Op) impl.Store {
 	t.Helper()
 	then, ok := impl.StepStore(s, o)
 	if !ok {
-		t.Fatalf("StepStore(%v, %v): false", s, o)
+		t.Fatalf("StepStore(%s, %s): false", brief(s), brief(o))
 	}
 	return then
 }
@@ -511,16 +526,16 @@ func lookAtConfirmed(t *testing.T, s impl.Store) {
 		want.History = want.History[:mostHistory]
 	}
 	if !sameStore(then, want) {
-		t.Errorf("%v confirmed: %v, not %v", s, then, want)
+		t.Errorf("%s confirmed: %s, not %s", brief(s), brief(then), brief(want))
 	}
 	refusesOp(t, then, oneOp("tick"))
 	refusesOp(t, then, oneOp("confirm"))
 	if got, ok := impl.ConfirmedOf(then); !sameConfig(got, s.Running) || !ok {
-		t.Error(got, ok)
+		t.Error(brief(got), ok)
 	}
 	again := mustStep(t, mustStep(t, then, oneOp("discard")), oneOp("commit"))
 	if !slices.EqualFunc(again.History, want.History, sameConfig) {
-		t.Errorf("%v confirmed and committed: %v", s, again)
+		t.Errorf("%s confirmed and committed: %s", brief(s), brief(again))
 	}
 }
 
@@ -532,7 +547,7 @@ func lookAtWait(t *testing.T, s impl.Store, n int) {
 	want.Running = s.Candidate
 	for want.Left = n; want.Left > 0; want.Left-- {
 		if !sameStore(then, want) {
-			t.Fatalf("%v for %d: %v, not %v", s, n, then, want)
+			t.Fatalf("%s for %d: %s, not %s", brief(s), n, brief(then), brief(want))
 		}
 		if want.Left <= 3 || want.Left >= n-2 || want.Left%17 == 0 {
 			lookAtConfirmed(t, then)
@@ -541,10 +556,11 @@ func lookAtWait(t *testing.T, s impl.Store, n int) {
 	}
 	want.Running = s.History[0]
 	if !sameStore(then, want) {
-		t.Errorf("%v for %d, behind the last tick: %v, not %v", s, n, then, want)
+		t.Errorf("%s for %d, behind the last tick: %s, not %s", brief(s), n, brief(then), brief(want))
 	}
 	refusesOp(t, then, oneOp("tick"))
 	refusesOp(t, then, oneOp("confirm"))
+	stopAtFault(t)
 }
 
 func TestWhatIsNotConfirmedIsTakenBackAtItsLastTick(t *testing.T) {
@@ -580,6 +596,7 @@ func TestWhatIsPlayedIsTakenBackAtItsLastTick(t *testing.T) {
 				want.Left, want.History = 0, [][]impl.Leaf{one, version}
 			}
 			lookAtOps(t, l, want, did...)
+			stopAtFault(t)
 		}
 	}
 }
@@ -630,6 +647,7 @@ func lookAtPromise16(t *testing.T, l []impl.Op, counts map[string]int) {
 		s, did = then, append(did, done)
 	}
 	lookAtOps(t, l, s, did...)
+	stopAtFault(t)
 }
 
 func countStep(counts map[string]int, s impl.Store, o impl.Op, then impl.Store, done bool) {
@@ -1195,6 +1213,7 @@ func lookAtStoreMemory(t *testing.T, s impl.Store, o impl.Op, behind impl.Leaf) 
 		t.Errorf("TicksLeft(%v) = %v, %v", s, left, ok)
 	}
 	unchanged("TicksLeft")
+	stopAtFault(t)
 }
 
 func TestStoresAreNotWrittenIntoNorShared(t *testing.T) {
