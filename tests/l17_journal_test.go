@@ -203,8 +203,12 @@ func isZeroDisk(d impl.Disk) bool {
 }
 
 // quoted tells texts byte by byte, and not all of what is too long.
-func quoted(v ...any) string {
-	return fmt.Sprintf("%.1500s", fmt.Sprintf("%#v", v))
+func quoted(all ...any) string {
+	var texts []string
+	for _, one := range all {
+		texts = append(texts, fmt.Sprintf("%#v", one))
+	}
+	return fmt.Sprintf("%.1500s", strings.Join(texts, ", "))
 }
 
 // lookAtDisk is told behind the wanted disk what was asked.
@@ -1273,9 +1277,10 @@ func wholeDisk(d impl.Disk) impl.Disk {
 	return impl.Disk{Sectors: whole(d.Sectors), Waiting: whole(d.Waiting)}
 }
 
+// handsOutDiskBehind asks also for what an answer had itself, and has no more.
 func handsOutDiskBehind(d impl.Disk) bool {
 	all := wholeDisk(d)
-	return slices.Contains(all.Sectors, behindData) || slices.Contains(all.Waiting, behindWrite)
+	return strings.Join(all.Sectors[len(d.Sectors):], "") != "" || slices.ContainsFunc(all.Waiting[len(d.Waiting):], func(w impl.Write) bool { return w != impl.Write{} })
 }
 
 func markedData(n int) string {
